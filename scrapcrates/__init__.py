@@ -1,0 +1,1 @@
+"""Crates of scrap, and what is melted of them."""
