@@ -26,9 +26,11 @@ class Crate:
 
 
 class Melt:
-    """Several crates together."""
+    """Several crates together, and the number that names them."""
 
-    def __init__(self, crates):
+    def __init__(self, number, crates):
+        self.number = number
+        self.crate_count = len(crates)
         self.heavy = sum([crate.heavy for crate in crates])
         self.price = sum([crate.price for crate in crates])
         # Left undivided by the weight, because thousandths of a melt need not be whole.
@@ -62,7 +64,7 @@ def is_melt(crates, number):
 
 def melt_of(crates, number):
     """Melt the crates that the number of a melt names."""
-    return Melt([crate for place, crate in enumerate(crates) if (number >> place) & 1 == 1])
+    return Melt(number, [crate for place, crate in enumerate(crates) if (number >> place) & 1 == 1])
 
 
 def within(weighted, weight, limits):

@@ -1,12 +1,16 @@
 """A yard, and what it answers to calls."""
 
-from scrapcrates.melts import Crate, Wanted
+from scrapcrates.choice import cheapest, distance, melts_as_wanted, nearest, with_most_crates
+from scrapcrates.melts import WHOLE, Crate, Wanted
 from scrapcrates.melts import crate_is_as_told, in_lowest_terms, is_melt, melt_of, wanted_is_as_told, wrong_with
 
 BEGINS = 0
 CRATE = 1
+CHECK = 2
+CHEAP = 3
+NEAR = 4
 # By the number of the call.
-NUMBERS_BEHIND = (6, 4, 1)
+NUMBERS_BEHIND = (6, 4, 1, 0, 1, 0)
 
 NOT_AS_TOLD = -1
 NO_ROOM = -5
@@ -51,6 +55,34 @@ class Yard:
             return [NOT_AS_WANTED, wrong] + makeup(melt)
         return [melt.price] + makeup(melt)
 
+    def cheap(self):
+        """Tell of the cheapest melt what it costs, how heavy it is, how many are as good, and its number."""
+        melts = melts_as_wanted(self.crates, self.wanted)
+        if len(melts) == 0:
+            return [NOT_AS_WANTED]
+        as_good = cheapest(melts)
+        melt = as_good[0]
+        return [melt.price, melt.heavy, len(as_good), melt.number]
+
+    def near(self, thousandths):
+        """Tell of the nearest melt how far off it is, what it costs, how many are as good, and its number."""
+        if thousandths > WHOLE:
+            return [NOT_AS_TOLD]
+        melts = melts_as_wanted(self.crates, self.wanted)
+        if len(melts) == 0:
+            return [NOT_AS_WANTED]
+        as_good = nearest(melts, thousandths)
+        melt = as_good[0]
+        return [0] + distance(melt, thousandths) + [melt.price, len(as_good), melt.number]
+
+    def most(self):
+        """Tell of the melt with the most crates how many these are, and its number."""
+        melts = melts_as_wanted(self.crates, self.wanted)
+        if len(melts) == 0:
+            return [NOT_AS_WANTED]
+        melt = with_most_crates(melts)[0]
+        return [melt.crate_count, melt.number]
+
 
 def makeup(melt):
     """Give how heavy a melt is, then its copper and its zinc."""
@@ -65,7 +97,13 @@ def answer_to(yard, call, numbers):
         return yard.begins(numbers)
     if call == CRATE:
         return yard.crate(numbers)
-    return yard.check(numbers[0])
+    if call == CHECK:
+        return yard.check(numbers[0])
+    if call == CHEAP:
+        return yard.cheap()
+    if call == NEAR:
+        return yard.near(numbers[0])
+    return yard.most()
 
 
 def answers(calls):

@@ -25,6 +25,60 @@ ANSWERED = [
     1, -1,
 ]
 
+ALL_SIX = [
+    3,
+    4, 1001,
+    5,
+    0, 50, 90, 600, 700, 250, 350,
+    1, 40, 650, 300, 12,
+    4, 640,
+    1, 20, 500, 450, 7,
+    3,
+    2, 3,
+    4, 640,
+    5,
+    2, 1,
+    4, 4294967295,
+]
+ALL_SIX_ANSWERED = [
+    1, -6,
+    1, -1,
+    1, -6,
+    1, 0,
+    1, 0,
+    1, -6,
+    1, 1,
+    4, 19, 60, 1, 3,
+    6, 19, 60, 600, 1, 350, 1,
+    6, 0, 40, 1, 19, 1, 3,
+    2, 2, 3,
+    7, -6, 1, 40, 650, 1, 300, 1,
+    1, -1,
+]
+
+# Of the eight crates four are 600 and four are 700 thousandths of copper, and four of them are wanted.
+SIXTY = (
+    [0, 40, 40, 0, 1000, 0, 1000]
+    + [1, 10, 600, 300, 5, 1, 10, 700, 300, 5] * 4
+    + [3, 4, 650, 5, 4, 610, 4, 1001] + [2, 240, 2, 0] * 21 + [2, 15] + [5, 3, 4, 600]
+)
+SIXTY_ANSWERED = (
+    [1, 0] + [1, 0, 1, 1, 1, 2, 1, 3, 1, 4, 1, 5, 1, 6, 1, 7]
+    + [4, 20, 40, 70, 15] + [6, 0, 0, 1, 20, 36, 15] + [2, 4, 15] + [6, 0, 10, 1, 20, 1, 85] + [1, -1]
+    + [6, 20, 40, 650, 1, 300, 1, 1, -1] * 21 + [6, 20, 40, 650, 1, 300, 1]
+    + [2, 4, 15] + [4, 20, 40, 70, 15] + [6, 0, 0, 1, 20, 1, 85]
+)
+
+
+class Untouchable(list):
+    """A list that fails wherever it would be changed, even if only for a while."""
+
+    def refuse(self, *rest, **named):
+        raise AssertionError("what was handed in is changed")
+
+    append = clear = extend = insert = pop = remove = reverse = sort = refuse
+    __setitem__ = __delitem__ = __iadd__ = __imul__ = refuse
+
 
 class Form(unittest.TestCase):
     def test_one_call(self):
@@ -34,6 +88,19 @@ class Form(unittest.TestCase):
 
     def test_several_calls(self):
         self.assertEqual(answers(SEVERAL), ANSWERED)
+
+    def test_cheap_near_and_most(self):
+        self.assertEqual(answers([3]), [1, -6])
+        self.assertEqual(answers([4, 0]), [1, -6])
+        self.assertEqual(answers([4, 1001]), [1, -1])
+        self.assertEqual(answers([5]), [1, -6])
+        a_crate = [1, 40, 650, 300, 12]
+        self.assertEqual(answers(a_crate + [3]), [1, 0, 4, 12, 40, 1, 1])
+        self.assertEqual(answers(a_crate + [4, 3]), [1, 0, 6, 0, 647, 1, 12, 1, 1])
+        self.assertEqual(answers(a_crate + [5]), [1, 0, 2, 1, 1])
+
+    def test_all_six_calls(self):
+        self.assertEqual(answers(ALL_SIX), ALL_SIX_ANSWERED)
 
     def test_the_length_stands_before_each_answer(self):
         self.assertEqual(answers([1, 3, 1, 2, 5, 2, 1]), [1, 0, 6, 5, 3, 1, 1, 2, 1])
@@ -52,22 +119,33 @@ class Form(unittest.TestCase):
         told = answers([1, 40, 650, 300, 12] + [2, 1] * 59)
         self.assertEqual(told, [1, 0] + [6, 12, 40, 650, 1, 300, 1] * 59)
 
+    def test_sixty_calls_with_eight_of_cheap_near_and_most(self):
+        self.assertEqual(answers(SIXTY), SIXTY_ANSWERED)
+
     def test_numbers_are_plain_whole_numbers_in_a_list(self):
-        told = answers(list(SEVERAL))
-        self.assertIs(type(told), list)
-        self.assertEqual({type(number) for number in told}, {int})
+        for calls in (SEVERAL, ALL_SIX, SIXTY):
+            told = answers(list(calls))
+            self.assertIs(type(told), list)
+            self.assertEqual({type(number) for number in told}, {int})
 
 
 class NothingKept(unittest.TestCase):
     def test_what_is_handed_in_is_as_it_was(self):
-        handed = list(SEVERAL)
-        answers(handed)
-        self.assertEqual(handed, SEVERAL)
+        for calls in (SEVERAL, ALL_SIX, SIXTY):
+            handed = list(calls)
+            answers(handed)
+            self.assertEqual(handed, calls)
+
+    def test_what_is_handed_in_is_not_changed_for_a_while_either(self):
+        self.assertEqual(answers(Untouchable(SEVERAL)), ANSWERED)
+        self.assertEqual(answers(Untouchable(ALL_SIX)), ALL_SIX_ANSWERED)
+        self.assertEqual(answers(Untouchable(SIXTY)), SIXTY_ANSWERED)
 
     def test_a_second_time_is_as_the_first(self):
-        first = answers(SEVERAL)
-        self.assertEqual(answers(SEVERAL), first)
-        self.assertEqual(first, ANSWERED)
+        for calls, told in ((SEVERAL, ANSWERED), (ALL_SIX, ALL_SIX_ANSWERED), (SIXTY, SIXTY_ANSWERED)):
+            first = answers(calls)
+            self.assertEqual(answers(calls), first)
+            self.assertEqual(first, told)
 
     def test_no_crates_stay(self):
         answers([1, 40, 650, 300, 12])

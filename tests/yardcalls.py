@@ -20,6 +20,23 @@ def check(melt):
     return [2, melt]
 
 
+def cheap():
+    return [3]
+
+
+def near(thousandths):
+    return [4, thousandths]
+
+
+def most():
+    return [5]
+
+
+def yard(wanted, crates):
+    """Give the calls that make a yard."""
+    return [begins(*wanted), *[crate(*numbers) for numbers in crates]]
+
+
 def answered(*calls):
     """Ask the calls about one yard and give a list for each of them."""
     told = answers([number for call in calls for number in call])
